@@ -1,0 +1,45 @@
+"""The calls: what is asked of a card and a bet, and the answers as lists of whole numbers."""
+
+from betwords.bets import Fault, read_bet
+from betwords.cards import read_card
+
+TOO_LONG = -2
+FAULTY_BET = -6
+NO_CARD = -8
+
+MOST_CARD = 65536
+MOST_BET = 4096
+
+
+def judge(card, bet):
+    """0; or -6, the kind of the bet's first fault, its place; or another refusal."""
+    refusal, found = look_at(card, bet)
+    if found is None:
+        return refusal
+    return [0]
+
+
+def means(card, bet):
+    """0, the pool's number, how, the stake, how many sets, of each how many numbers and these; or a refusal."""
+    refusal, found = look_at(card, bet)
+    if found is None:
+        return refusal[:1]
+    answer = [0, found.pool_number, found.how, found.stake, len(found.sets)]
+    for numbers in found.sets:
+        answer.append(len(numbers))
+        answer.extend(numbers)
+    return answer
+
+
+def look_at(card, bet):
+    """The refusal as judge answers it and None, or an empty refusal and the bet."""
+    if len(card) > MOST_CARD or len(bet) > MOST_BET:
+        return [TOO_LONG], None
+    pools = read_card(card)
+    if pools is None:
+        return [NO_CARD], None
+    try:
+        found = read_bet(pools, bet)
+    except Fault as fault:
+        return [FAULTY_BET, fault.kind, fault.place], None
+    return [], found
