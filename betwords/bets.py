@@ -31,14 +31,19 @@ class Fault(Exception):
 
 
 class Bet:
-    """A bet without fault in its words: a pool and its number, how (as in WAYS), a stake, sets."""
+    """A bet without fault: a pool and its number, how (as in WAYS), a stake, sets, how many combinations."""
 
-    def __init__(self, pool, pool_number, how, stake, sets):
+    def __init__(self, pool, pool_number, how, stake, sets, many):
         self.pool = pool
         self.pool_number = pool_number
         self.how = how
         self.stake = stake
         self.sets = sets
+        self.many = many
+
+    def cost(self):
+        """The stake for each combination."""
+        return self.stake * self.many
 
 
 class Words:
@@ -108,12 +113,12 @@ def read_words(pools, words):
     stake_place = words.place
     how = take_how(words, pool)
     how_place = words.place
-    bet = Bet(pool, pool_number, how, stake, take_sets(words, pool, how))
+    sets = take_sets(words, pool, how)
     words.finish()
-    many = many_of(bet)
-    if many == 0:
+    bet = Bet(pool, pool_number, how, stake, sets, count_of(pool, how, sets))
+    if bet.many == 0:
         raise Fault(NO_COMBINATION, how_place)
-    if stake * many > MOST_COST:
+    if bet.cost() > MOST_COST:
         raise Fault(TOO_DEAR, stake_place)
     return bet
 
@@ -194,12 +199,11 @@ def take_set(words, field):
     return numbers
 
 
-def many_of(bet):
-    """How many combinations a bet has."""
-    kind = bet.pool.kind
-    size = len(bet.pool.fields)
-    if bet.how == ON:
-        return count_on(kind, bet.sets)
-    if bet.how == BOX:
-        return count_box(kind, size, bet.sets[0])
-    return count_key(kind, size, bet.sets[0], bet.sets[1])
+def count_of(pool, how, sets):
+    """How many combinations of a pool these sets mean."""
+    if how == ON:
+        return count_on(pool.kind, sets)
+    size = len(pool.fields)
+    if how == BOX:
+        return count_box(pool.kind, size, sets[0])
+    return count_key(pool.kind, size, sets[0], sets[1])

@@ -31,6 +31,22 @@ def means(card, bet):
     return answer
 
 
+def many(card, bet):
+    """0, of how many combinations the bet is; or a refusal."""
+    refusal, found = look_at(card, bet)
+    if found is None:
+        return refusal[:1]
+    return [0, found.many]
+
+
+def cost(card, bet):
+    """0, the stake times how many combinations the bet is of; or a refusal."""
+    refusal, found = look_at(card, bet)
+    if found is None:
+        return refusal[:1]
+    return [0, found.cost()]
+
+
 def look_at(card, bet):
     """The refusal as judge answers it and None, or an empty refusal and the bet."""
     if len(card) > MOST_CARD or len(bet) > MOST_BET:

@@ -1,4 +1,6 @@
-"""What the tests share: texts as bytes, a card to bet on, and the calls on texts."""
+"""What the tests share: texts as bytes, a card to bet on, the calls on texts, and combinations one by one."""
+
+import itertools
 
 from betwords import desk
 
@@ -33,6 +35,33 @@ def judge(bet, card=DAY):
 
 def means(bet, card=DAY):
     return desk.means(codes(card), codes(bet))
+
+
+def many(bet, card=DAY):
+    return desk.many(codes(card), codes(bet))
+
+
+def cost(bet, card=DAY):
+    return desk.cost(codes(card), codes(bet))
+
+
+def rows(kind, fields):
+    """All combinations of a pool, from the interests that each of their numbers may be."""
+    if kind == "order":
+        return list(itertools.permutations(fields[0], len(fields)))
+    if kind == "any":
+        return list(itertools.combinations(fields[0], len(fields)))
+    return list(itertools.product(*fields))
+
+
+def fits(kind, how, row, sets):
+    """Whether a combination is one of those that on, box or key with these sets means."""
+    if how == "box":
+        return set(row) <= set(sets[0])
+    if how == "key":
+        return set(sets[0]) <= set(row) <= set(sets[0]) | set(sets[1])
+    orders = itertools.permutations(row) if kind == "any" else [row]
+    return any(all(number in some for number, some in zip(order, sets)) for order in orders)
 
 
 def numbers(first, last):

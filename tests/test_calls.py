@@ -1,15 +1,17 @@
 """What holds of every call: the order of refusals, lengths, the largest inputs, nothing changed and nothing kept."""
 
+import contextlib
 import inspect
+import io
 import sys
 import unittest
 
 from betwords import desk
-from tests.helper import DAY, big_day, codes, judge, means, numbers
+from tests.helper import DAY, big_day, codes, cost, judge, many, means, numbers
 
 BET = "bet win for 1 on 1\n"
 FAULTY = "bet lose for 1 on 1\n"
-CALLS = [desk.judge, desk.means]
+CALLS = [desk.judge, desk.means, desk.many, desk.cost]
 
 
 def largest_bets():
@@ -29,51 +31,52 @@ def largest_bets():
 
 
 class RefusalTest(unittest.TestCase):
-    def both(self, card, bet, answer):
+    def refused(self, card, bet, answer):
         self.assertEqual(judge(bet, card), answer)
-        self.assertEqual(means(bet, card), answer[:1])
+        for call in [means, many, cost]:
+            self.assertEqual(call(bet, card), answer[:1])
 
     def test_length_of_the_card(self):
         for filler in ["x", " ", "\n", "1", "a", "\x00"]:
-            self.both(filler * 65536, BET, [-8])
-            self.both(filler * 65537, BET, [-2])
-        self.both(DAY + "\n" * (65536 - len(DAY)), BET, [-8])
-        self.both(DAY + "\n" * (65537 - len(DAY)), BET, [-2])
-        self.both("day d\nrace 2\n" * 5041 + "day", BET, [-8])
-        self.both("x" * 66000, BET, [-2])
+            self.refused(filler * 65536, BET, [-8])
+            self.refused(filler * 65537, BET, [-2])
+        self.refused(DAY + "\n" * (65536 - len(DAY)), BET, [-8])
+        self.refused(DAY + "\n" * (65537 - len(DAY)), BET, [-2])
+        self.refused("day d\nrace 2\n" * 5041 + "day", BET, [-8])
+        self.refused("x" * 66000, BET, [-2])
 
     def test_length_of_the_bet(self):
-        self.both(DAY, BET + "x" * (4096 - len(BET)), [-6, 8, len(BET)])
-        self.both(DAY, BET + "x" * (4097 - len(BET)), [-2])
+        self.refused(DAY, BET + "x" * (4096 - len(BET)), [-6, 8, len(BET)])
+        self.refused(DAY, BET + "x" * (4097 - len(BET)), [-2])
         for filler in ["x", "1", ",", "/", "\x00"]:
-            self.both(DAY, filler * 4096, [-6, 1, 4096])
-            self.both(DAY, filler * 4097, [-2])
-        self.both(DAY, "x" * 4095 + "\n", [-6, 3, 0])
-        self.both(DAY, "x" * 4096 + "\n", [-2])
-        self.both(DAY, "x" * 4200, [-2])
+            self.refused(DAY, filler * 4096, [-6, 1, 4096])
+            self.refused(DAY, filler * 4097, [-2])
+        self.refused(DAY, "x" * 4095 + "\n", [-6, 3, 0])
+        self.refused(DAY, "x" * 4096 + "\n", [-2])
+        self.refused(DAY, "x" * 4200, [-2])
 
     def test_long_words_in_a_bet(self):
-        self.both(DAY, "bet " + "a" * 4091 + "\n", [-6, 5, 4])
-        self.both(DAY, "bet win for " + "1" * 4083 + "\n", [-6, 4, 12])
-        self.both(DAY, "bet win for 1 on " + "1" * 4078 + "\n", [-6, 4, 17])
-        self.both(DAY, "bet win for 1 on 1" + ",1" * 2038 + "\n", [-6, 4, 17])
-        self.both(DAY, "bet win for 1 on 1" + " / 1" * 1019 + "\n", [-6, 3, 19])
-        self.both(DAY, "bet win for 1 on 1" + " x" * 2038 + "\n", [-6, 3, 19])
+        self.refused(DAY, "bet " + "a" * 4091 + "\n", [-6, 5, 4])
+        self.refused(DAY, "bet win for " + "1" * 4083 + "\n", [-6, 4, 12])
+        self.refused(DAY, "bet win for 1 on " + "1" * 4078 + "\n", [-6, 4, 17])
+        self.refused(DAY, "bet win for 1 on 1" + ",1" * 2038 + "\n", [-6, 4, 17])
+        self.refused(DAY, "bet win for 1 on 1" + " / 1" * 1019 + "\n", [-6, 3, 19])
+        self.refused(DAY, "bet win for 1 on 1" + " x" * 2038 + "\n", [-6, 3, 19])
 
     def test_too_long_is_told_before_no_card_and_faults(self):
-        self.both("x" * 65537, "x" * 4097, [-2])
-        self.both("x" * 65537, FAULTY, [-2])
-        self.both("x", "x" * 4097, [-2])
-        self.both(DAY, "x" * 4097, [-2])
+        self.refused("x" * 65537, "x" * 4097, [-2])
+        self.refused("x" * 65537, FAULTY, [-2])
+        self.refused("x", "x" * 4097, [-2])
+        self.refused(DAY, "x" * 4097, [-2])
 
     def test_no_card_is_told_before_faults(self):
         for card in ["", "x", DAY[:-1], "x" * 65536]:
             for bet in ["", FAULTY, "x" * 4096, BET + "x"]:
-                self.both(card, bet, [-8])
+                self.refused(card, bet, [-8])
 
     def test_faults_are_told_at_last(self):
-        self.both(DAY, FAULTY, [-6, 5, 4])
-        self.both(DAY, "", [-6, 1, 0])
+        self.refused(DAY, FAULTY, [-6, 5, 4])
+        self.refused(DAY, "", [-6, 1, 0])
 
 
 class LargestTest(unittest.TestCase):
@@ -118,6 +121,22 @@ class LargestTest(unittest.TestCase):
         self.assertLess(max(deepest) - base, 20)
 
 
+class InterfaceTest(unittest.TestCase):
+    def test_names_and_order_of_the_arguments(self):
+        for call in CALLS:
+            self.assertEqual(list(inspect.signature(call).parameters), ["card", "bet"])
+        self.assertEqual(desk.many(bet=codes(BET), card=codes(DAY)), [0, 1])
+        self.assertEqual(desk.cost(bet=codes(BET), card=codes(DAY)), [0, 1])
+
+    def test_nothing_is_printed(self):
+        shown = io.StringIO()
+        with contextlib.redirect_stdout(shown), contextlib.redirect_stderr(shown):
+            for call in CALLS:
+                for card, bet in [(DAY, BET), (DAY, FAULTY), ("x", BET), ("x" * 65537, BET)]:
+                    call(codes(card), codes(bet))
+        self.assertEqual(shown.getvalue(), "")
+
+
 class PureTest(unittest.TestCase):
     def test_arguments_stay_as_they_were(self):
         for card, bet in [(DAY, BET), (DAY, FAULTY), (DAY, "bet trio for 2 key 1,2 with 3,5\n"), ("x", BET),
@@ -134,6 +153,13 @@ class PureTest(unittest.TestCase):
             answers = [call(codes(card), codes(bet)) for card, bet in texts]
             for (card, bet), answer in reversed(list(zip(texts, answers))):
                 self.assertEqual(call(codes(card), codes(bet)), answer)
+
+    def test_a_second_call_on_the_same_lists(self):
+        for card, bet in [(DAY, BET), (DAY, FAULTY), (big_day(), largest_bets()[4][0]), ("x", BET)]:
+            first, second = codes(card), codes(bet)
+            for call in CALLS:
+                self.assertEqual(call(first, second), call(first, second))
+                self.assertEqual(call(first, second), call(codes(card), codes(bet)))
 
     def test_an_answer_is_the_caller_s_own(self):
         for card, bet in [(DAY, BET), (DAY, FAULTY), ("x", BET), ("x" * 65537, BET)]:

@@ -1,8 +1,8 @@
-"""What is a card and what is none, as judge and means tell it."""
+"""What is a card and what is none, as each call tells it."""
 
 import unittest
 
-from tests.helper import DAY, judge, means
+from tests.helper import DAY, cost, judge, many, means
 
 RACES = "day d\nrace 6\nrace 3 couple 1 2\nrace 4\n"
 POOL = "pool p order 2 from 1 take 0 break 1 least 0 unit 1 none refund\n"
@@ -20,12 +20,14 @@ class CardTest(unittest.TestCase):
     def good(self, card):
         with self.subTest(card=card):
             self.assertEqual(judge("", card), [-6, 1, 0])
-            self.assertEqual(means("", card), [-6])
+            for call in [means, many, cost]:
+                self.assertEqual(call("", card), [-6])
 
     def bad(self, card):
         with self.subTest(card=card):
             self.assertEqual(judge("", card), [-8])
-            self.assertEqual(means("", card), [-8])
+            for call in [means, many, cost]:
+                self.assertEqual(call("", card), [-8])
 
     def test_ordinary_cards(self):
         self.good(DAY)

@@ -1,21 +1,10 @@
 """How many combinations a bet has, against going through all combinations of the pool."""
 
-import itertools
 import random
 import unittest
 
 from betwords.counts import count_box, count_key, count_on
-
-
-def rows(kind, size, interests):
-    if kind == "order":
-        return itertools.permutations(interests, size)
-    return itertools.combinations(interests, size)
-
-
-def fits(kind, row, sets):
-    orders = [row] if kind == "order" else itertools.permutations(row)
-    return any(all(number in numbers for number, numbers in zip(order, sets)) for order in orders)
+from tests.helper import fits, rows
 
 
 def some(chance, interests, least=1):
@@ -34,7 +23,7 @@ class CountTest(unittest.TestCase):
                 sets = [some(chance, interests) for place in range(size)]
                 if step % 4 == 0:
                     sets = [numbers[:2] for numbers in sets]
-                many = len([row for row in rows(kind, size, interests) if fits(kind, row, sets)])
+                many = len([row for row in rows(kind, [interests] * size) if fits(kind, "on", row, sets)])
                 self.assertEqual(count_on(kind, sets), many, (kind, sets))
 
     def test_on_in_place_and_legs(self):
@@ -64,7 +53,7 @@ class CountTest(unittest.TestCase):
         for kind, size in KINDS:
             for step in range(8):
                 numbers = some(chance, interests, size)
-                many = len(list(rows(kind, size, numbers)))
+                many = len(rows(kind, [numbers] * size))
                 self.assertEqual(count_box(kind, size, numbers), many, (kind, numbers))
 
     def test_key(self):
@@ -73,8 +62,8 @@ class CountTest(unittest.TestCase):
             for bankers in range(1, size):
                 for others in range(size - bankers, len(interests) - bankers + 1):
                     first, second = interests[:bankers], interests[bankers:bankers + others]
-                    many = len([row for row in rows(kind, size, interests)
-                                if set(first) <= set(row) <= set(first + second)])
+                    many = len([row for row in rows(kind, [interests] * size)
+                                if fits(kind, "key", row, [first, second])])
                     self.assertEqual(count_key(kind, size, first, second), many, (kind, first, second))
 
 

@@ -2,7 +2,7 @@
 
 import unittest
 
-from tests.helper import DAY, big_day, judge, means, numbers
+from tests.helper import DAY, big_day, cost, judge, many, means, numbers
 
 
 class FaultTest(unittest.TestCase):
@@ -11,7 +11,8 @@ class FaultTest(unittest.TestCase):
             place = marked.index("^")
             bet = marked.replace("^", "")
             self.assertEqual(judge(bet, card), [-6, kind, place])
-            self.assertEqual(means(bet, card), [-6])
+            for call in [means, many, cost]:
+                self.assertEqual(call(bet, card), [-6])
 
     def all_faulty(self, kind, bets):
         for marked in bets:
@@ -20,7 +21,8 @@ class FaultTest(unittest.TestCase):
     def good(self, bet, card=DAY):
         with self.subTest(bet=bet):
             self.assertEqual(judge(bet, card), [0])
-            self.assertEqual(means(bet, card)[0], 0)
+            for call in [means, many, cost]:
+                self.assertEqual(call(bet, card)[0], 0)
 
     def test_1_line_not_ended(self):
         self.all_faulty(1, ["^", "bet^", "bet win for 1 on 1^", " ^", "\x00\xff^", "bet win for 1 on 1\r^"])
@@ -167,7 +169,7 @@ class FaultTest(unittest.TestCase):
 
     def test_7_in_each_kind_and_way(self):
         everything = numbers(1, 24)
-        for pool, words, many in [
+        for pool, words, count in [
                 ("l6", "on " + " / ".join([everything] * 6), 24 ** 6),
                 ("o4", "on " + " / ".join([everything] * 4), 24 * 23 * 22 * 21),
                 ("o4", "box " + everything, 24 * 23 * 22 * 21),
@@ -175,7 +177,7 @@ class FaultTest(unittest.TestCase):
                 ("o4", "key 1,9 with " + numbers(10, 24), 24 * (15 * 14 // 2)),
                 ("o3", "box " + everything, 24 * 23 * 22),
                 ("o3", "on " + " / ".join([everything] * 3), 24 * 23 * 22)]:
-            most = (2 ** 31 - 1) // many
+            most = (2 ** 31 - 1) // count
             self.good(f"bet {pool} for {most} {words}\n", big_day())
             self.faulty(7, f"bet {pool} for ^{most + 1} {words}\n", big_day())
 
