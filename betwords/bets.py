@@ -1,6 +1,6 @@
 """Bets: the words of a line, and the first fault in them."""
 
-from betwords.counts import count_box, count_key, count_on
+from betwords.rows import rows_box, rows_key, rows_on
 from betwords.words import number_of, text_of
 
 NOT_ENDED = 1
@@ -31,15 +31,16 @@ class Fault(Exception):
 
 
 class Bet:
-    """A bet without fault: a pool and its number, how (as in WAYS), a stake, sets, how many combinations."""
+    """A bet without fault: a pool and its number, how (as in WAYS), a stake, sets, the combinations as Rows."""
 
-    def __init__(self, pool, pool_number, how, stake, sets, many):
+    def __init__(self, pool, pool_number, how, stake, sets, rows):
         self.pool = pool
         self.pool_number = pool_number
         self.how = how
         self.stake = stake
         self.sets = sets
-        self.many = many
+        self.rows = rows
+        self.many = rows.starting(())
 
     def cost(self):
         """The stake for each combination."""
@@ -115,7 +116,7 @@ def read_words(pools, words):
     how_place = words.place
     sets = take_sets(words, pool, how)
     words.finish()
-    bet = Bet(pool, pool_number, how, stake, sets, count_of(pool, how, sets))
+    bet = Bet(pool, pool_number, how, stake, sets, rows_of(pool, how, sets))
     if bet.many == 0:
         raise Fault(NO_COMBINATION, how_place)
     if bet.cost() > MOST_COST:
@@ -199,11 +200,11 @@ def take_set(words, field):
     return numbers
 
 
-def count_of(pool, how, sets):
-    """How many combinations of a pool these sets mean."""
+def rows_of(pool, how, sets):
+    """The combinations of a pool that these sets mean."""
     if how == ON:
-        return count_on(pool.kind, sets)
+        return rows_on(pool.kind, sets)
     size = len(pool.fields)
     if how == BOX:
-        return count_box(pool.kind, size, sets[0])
-    return count_key(pool.kind, size, sets[0], sets[1])
+        return rows_box(pool.kind, size, sets[0])
+    return rows_key(pool.kind, size, sets[0], sets[1])

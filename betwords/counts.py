@@ -1,30 +1,6 @@
-"""How many combinations a bet has, found without going through all of them."""
+"""How many combinations a bet on some sets has, found without going through all of them."""
 
 from betwords.cards import MOST_RUNNERS
-
-
-def count_on(kind, sets):
-    """How many combinations a bet on these sets has."""
-    if kind == "order":
-        return count_orders(sets)
-    if kind == "any":
-        return len(picks_of(sets))
-    return product_of([len(numbers) for numbers in sets])
-
-
-def count_box(kind, size, numbers):
-    """How many combinations of the pool's size are made of these numbers alone."""
-    if kind == "order":
-        return rows_among(len(numbers), size)
-    return picks_among(len(numbers), size)
-
-
-def count_key(kind, size, bankers, others):
-    """How many combinations have all the bankers, and else some of the others."""
-    picks = picks_among(len(others), size - len(bankers))
-    if kind == "order":
-        return picks * rows_among(size, size)
-    return picks
 
 
 def product_of(numbers):
@@ -35,17 +11,31 @@ def product_of(numbers):
     return product
 
 
-def rows_among(many, size):
-    """How many rows of different ones can be made of so many."""
-    return product_of(list(range(many - size + 1, many + 1)))
+def without(numbers, taken):
+    """The numbers that aren't taken."""
+    return [number for number in numbers if number not in taken]
 
 
-def picks_among(many, size):
-    """How many rising rows can be made of so many."""
-    return rows_among(many, size) // rows_among(size, size)
+def count_legs(sets, start):
+    """How many rows begin with these numbers and have their i-th number of the i-th set."""
+    if not is_of(sets, start):
+        return 0
+    return product_of([len(numbers) for numbers in sets[len(start):]])
 
 
-def count_orders(sets):
+def count_orders(sets, start):
+    """How many rows of different numbers begin with these and have their i-th number of the i-th set."""
+    if not is_of(sets, start) or len(set(start)) < len(start):
+        return 0
+    return count_different([without(numbers, start) for numbers in sets[len(start):]])
+
+
+def is_of(sets, start):
+    """Whether each of these numbers is of its set."""
+    return all([number in numbers for number, numbers in zip(start, sets)])
+
+
+def count_different(sets):
     """How many rows of different numbers have their i-th number of the i-th set."""
     # ways[mask]: how many rows fill just the mask's places with the numbers gone through so far.
     # A number fills one place at most; masks are gone through falling so that it isn't taken twice.
@@ -70,3 +60,13 @@ def picks_of(sets):
                     longer[tuple(sorted(pick + (number,)))] = True
         picks = list(longer)
     return picks
+
+
+def count_starts(rows):
+    """How many of these rows begin with each start of them."""
+    counts = {}
+    for row in rows:
+        for size in range(len(row) + 1):
+            start = row[:size]
+            counts[start] = counts.get(start, 0) + 1
+    return counts

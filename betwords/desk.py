@@ -2,8 +2,11 @@
 
 from betwords.bets import Fault, read_bet
 from betwords.cards import read_card
+from betwords.rows import rows_on
 
+NO_NUMBER = -1
 TOO_LONG = -2
+NO_NTH = -4
 FAULTY_BET = -6
 NO_CARD = -8
 
@@ -45,6 +48,28 @@ def cost(card, bet):
     if found is None:
         return refusal[:1]
     return [0, found.cost()]
+
+
+def has(number, card, bet):
+    """0, 1 if the pool's combination with this number is one of the bet's, else 0; or a refusal."""
+    refusal, found = look_at(card, bet)
+    if found is None:
+        return refusal[:1]
+    whole = rows_on(found.pool.kind, found.pool.fields)
+    if number >= whole.starting(()):
+        return [NO_NUMBER]
+    return [0, found.rows.starting(whole.row_at(number))]
+
+
+def nth(i, card, bet):
+    """0, the number of the i-th of the bet's combinations, from 0, rising; or a refusal."""
+    refusal, found = look_at(card, bet)
+    if found is None:
+        return refusal[:1]
+    if i >= found.many:
+        return [NO_NTH]
+    whole = rows_on(found.pool.kind, found.pool.fields)
+    return [0, whole.before(found.rows.row_at(i))]
 
 
 def look_at(card, bet):

@@ -7,11 +7,20 @@ import sys
 import unittest
 
 from betwords import desk
-from tests.helper import DAY, big_day, codes, cost, judge, many, means, numbers
+from tests.helper import DAY, big_day, codes, cost, has, judge, many, means, nth, numbers
 
 BET = "bet win for 1 on 1\n"
 FAULTY = "bet lose for 1 on 1\n"
+MOST = 4294967295
+
+
+def with_number(call, number):
+    """The call with its first argument told, so that it's asked of a card and a bet as the others are."""
+    return lambda card, bet: call(number, card, bet)
+
+
 CALLS = [desk.judge, desk.means, desk.many, desk.cost]
+CALLS += [with_number(call, number) for call in [desk.has, desk.nth] for number in [0, 2, MOST]]
 
 
 def largest_bets():
@@ -35,6 +44,9 @@ class RefusalTest(unittest.TestCase):
         self.assertEqual(judge(bet, card), answer)
         for call in [means, many, cost]:
             self.assertEqual(call(bet, card), answer[:1])
+        for call in [has, nth]:
+            for number in [0, MOST]:
+                self.assertEqual(call(number, bet, card), answer[:1])
 
     def test_length_of_the_card(self):
         for filler in ["x", " ", "\n", "1", "a", "\x00"]:
@@ -123,10 +135,14 @@ class LargestTest(unittest.TestCase):
 
 class InterfaceTest(unittest.TestCase):
     def test_names_and_order_of_the_arguments(self):
-        for call in CALLS:
+        for call in [desk.judge, desk.means, desk.many, desk.cost]:
             self.assertEqual(list(inspect.signature(call).parameters), ["card", "bet"])
+        self.assertEqual(list(inspect.signature(desk.has).parameters), ["number", "card", "bet"])
+        self.assertEqual(list(inspect.signature(desk.nth).parameters), ["i", "card", "bet"])
         self.assertEqual(desk.many(bet=codes(BET), card=codes(DAY)), [0, 1])
         self.assertEqual(desk.cost(bet=codes(BET), card=codes(DAY)), [0, 1])
+        self.assertEqual(desk.has(bet=codes(BET), card=codes(DAY), number=0), [0, 1])
+        self.assertEqual(desk.nth(bet=codes(BET), card=codes(DAY), i=0), [0, 0])
 
     def test_nothing_is_printed(self):
         shown = io.StringIO()

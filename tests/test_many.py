@@ -4,56 +4,10 @@ import itertools
 import random
 import unittest
 
-from tests.helper import DAY, big_day, cost, fits, judge, many, means, numbers, rows
+from tests.helper import (CARD, DAY, POOLS, FIRST, SECOND, THIRD, a_part, big_day, card_of, cost, faulty_bets, fits,
+                          judge, keys, many, means, numbers, parts, rows, written)
 
 MOST = 2 ** 31 - 1
-# Of each race only the heads are interests: FIRST, SECOND, THIRD, FOURTH.
-COUPLED = ("day d\nrace 5 couple 2 4\nrace 4 couple 1 2 couple 1 3\nrace 5 couple 2 4 couple 1 5\n"
-           "race 7 couple 3 4\n")
-FIRST = [1, 2, 3, 5]
-SECOND = [1, 4]
-THIRD = [1, 2, 3]
-FOURTH = [1, 2, 3, 5, 6, 7]
-POOLS = [
-    ("p1", "place", 1, 1, [FIRST]), ("p3", "place", 3, 1, [FIRST]), ("p4", "place", 4, 4, [FOURTH]),
-    ("o2", "order", 2, 1, [FIRST] * 2), ("o3", "order", 3, 1, [FIRST] * 3), ("o4", "order", 4, 4, [FOURTH] * 4),
-    ("a2", "any", 2, 1, [FIRST] * 2), ("a3", "any", 3, 1, [FIRST] * 3), ("b3", "any", 3, 4, [FOURTH] * 3),
-    ("l2", "legs", 2, 2, [SECOND, THIRD]), ("l3", "legs", 3, 2, [SECOND, THIRD, FOURTH]),
-    ("l4", "legs", 4, 1, [FIRST, SECOND, THIRD, FOURTH]),
-]
-
-
-def card_of(pools):
-    return COUPLED + "".join(f"pool {name} {kind} {size} from {race} take 0 break 1 least 0 unit 1 none carry\n"
-                             for name, kind, size, race, fields in pools)
-
-
-CARD = card_of(POOLS)
-
-
-def word(some):
-    return ",".join(str(number) for number in some)
-
-
-def written(name, stake, how, sets):
-    return f"bet {name} for {stake} {how} " + (" with " if how == "key" else " / ").join(map(word, sets)) + "\n"
-
-
-def parts(interests, least=1):
-    """All sets of at least so many of these."""
-    return [list(some) for size in range(least, len(interests) + 1)
-            for some in itertools.combinations(interests, size)]
-
-
-def a_part(chance, interests, least=1):
-    return sorted(chance.sample(interests, chance.randrange(least, len(interests) + 1)))
-
-
-def keys(interests, size):
-    """All pairs of sets that a key may have."""
-    return [[bankers, others] for bankers in parts(interests) if len(bankers) < size
-            for others in parts([number for number in interests if number not in bankers])
-            if len(bankers) + len(others) >= size]
 
 
 class ManyTest(unittest.TestCase):
@@ -219,14 +173,7 @@ class RefusalTest(unittest.TestCase):
         self.refused("x" * 65536, good, -8)
 
     def test_each_fault_alone(self):
-        dear = f"bet o4 for 8421 box {numbers(1, 24)}\n"
-        for kind, place, card, bet in [
-                (1, 18, DAY, "bet win for 1 on 1"), (1, 0, DAY, ""), (2, 18, DAY, "bet win for 1 on 1 \n"),
-                (2, 0, DAY, "\n"), (3, 8, DAY, "bet win four 1 on 1\n"), (3, 13, DAY, "bet win for 1\n"),
-                (4, 17, DAY, "bet win for 1 on 7\n"), (4, 12, DAY, "bet win for 0 on 1\n"),
-                (5, 4, DAY, "bet lose for 1 on 1\n"), (6, 15, DAY, "bet trio for 2 on 1 / 1 / 2\n"),
-                (6, 19, DAY, "bet quinella for 1 on 2 / 2\n"), (7, 11, big_day(), dear),
-                (8, 19, DAY, "bet win for 1 on 1\n\n")]:
+        for kind, place, card, bet in faulty_bets():
             self.refused(card, bet, -6)
             self.assertEqual(judge(bet, card), [-6, kind, place], bet)
 
