@@ -1,4 +1,4 @@
-"""How many combinations a bet on some sets has, found without going through all of them."""
+"""How many combinations some sets have, begin with given numbers or stand before one; and lists of few of them."""
 
 from betwords.cards import MOST_RUNNERS
 
@@ -70,3 +70,50 @@ def count_starts(rows):
             start = row[:size]
             counts[start] = counts.get(start, 0) + 1
     return counts
+
+
+def choices(kind, numbers, start):
+    """The numbers of a set that may follow this start in a pool of place, order or legs."""
+    return without(numbers, start) if kind == "order" else numbers
+
+
+def rows_through(kind, sets):
+    """All rows of place, order or legs with their i-th number of the i-th set, in their order."""
+    rows = [()]
+    for numbers in sets:
+        longer = []
+        for row in rows:
+            longer.extend([row + (number,) for number in choices(kind, numbers, row)])
+        rows = longer
+    return rows
+
+
+def choose(many, size):
+    """How many sets of this size can be taken from so many numbers."""
+    ways = 1
+    for taken in range(size):
+        ways = ways * (many - taken) // (taken + 1)
+    return ways
+
+
+def count_before(kind, fields, row):
+    """How many combinations of the pool with these fields stand before this one of them."""
+    if kind == "any":
+        return count_before_pick(fields[0], row)
+    # In a whole pool as many rows begin with one start as with any other of its length.
+    before = 0
+    for place, number in enumerate(row):
+        left = choices(kind, fields[place], row[:place])
+        before = before * len(left) + left.index(number)
+    return before
+
+
+def count_before_pick(interests, row):
+    """How many rising rows of these interests stand before this one."""
+    # The rows behind it are easier to count: up to some place as this one, from there on any greater numbers.
+    size = len(row)
+    behind = 0
+    for place, number in enumerate(row):
+        greater = len(interests) - 1 - interests.index(number)
+        behind += choose(greater, size - place)
+    return choose(len(interests), size) - 1 - behind

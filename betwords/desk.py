@@ -2,16 +2,19 @@
 
 from betwords.bets import Fault, read_bet
 from betwords.cards import read_card
-from betwords.rows import rows_on
+from betwords.counts import count_before
+from betwords.rows import count_common, rows_on
 
 NO_NUMBER = -1
 TOO_LONG = -2
 NO_NTH = -4
 FAULTY_BET = -6
 NO_CARD = -8
+TOO_MANY = -9
 
 MOST_CARD = 65536
 MOST_BET = 4096
+MOST_LISTED = 4096
 
 
 def judge(card, bet):
@@ -68,19 +71,50 @@ def nth(i, card, bet):
         return refusal[:1]
     if i >= found.many:
         return [NO_NTH]
-    whole = rows_on(found.pool.kind, found.pool.fields)
-    return [0, whole.before(found.rows.row_at(i))]
+    return [0, count_before(found.pool.kind, found.pool.fields, found.rows.row_at(i))]
+
+
+def list_of(card, bet):
+    """0, then the numbers of all the bet's combinations, rising; or a refusal."""
+    refusal, found = look_at(card, bet)
+    if found is None:
+        return refusal[:1]
+    if found.many > MOST_LISTED:
+        return [TOO_MANY]
+    pool = found.pool
+    return [0] + [count_before(pool.kind, pool.fields, row) for row in found.rows.listed()]
+
+
+def both(card, bet, other):
+    """0, how many combinations both bets have, none if they're of two pools; or a refusal."""
+    refusal, found = look_at_all(card, [bet, other])
+    if len(found) == 0:
+        return refusal[:1]
+    first, second = found
+    if first.pool_number != second.pool_number:
+        return [0, 0]
+    return [0, count_common(first.rows, second.rows)]
 
 
 def look_at(card, bet):
     """The refusal as judge answers it and None, or an empty refusal and the bet."""
-    if len(card) > MOST_CARD or len(bet) > MOST_BET:
-        return [TOO_LONG], None
+    refusal, found = look_at_all(card, [bet])
+    if len(found) == 0:
+        return refusal, None
+    return refusal, found[0]
+
+
+def look_at_all(card, bets):
+    """The refusal as judge answers it and an empty list, or an empty refusal and the bets read."""
+    if len(card) > MOST_CARD or any([len(bet) > MOST_BET for bet in bets]):
+        return [TOO_LONG], []
     pools = read_card(card)
     if pools is None:
-        return [NO_CARD], None
-    try:
-        found = read_bet(pools, bet)
-    except Fault as fault:
-        return [FAULTY_BET, fault.kind, fault.place], None
+        return [NO_CARD], []
+    found = []
+    for bet in bets:
+        try:
+            found.append(read_bet(pools, bet))
+        except Fault as fault:
+            return [FAULTY_BET, fault.kind, fault.place], []
     return [], found

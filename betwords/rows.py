@@ -1,6 +1,6 @@
-"""The combinations of a bet or a pool as rows, in their order: how many there are, which is the i-th."""
+"""The combinations of a bet or a pool as rows, in their order: how many there are, which, how many in common."""
 
-from betwords.counts import count_legs, count_orders, count_starts, picks_of
+from betwords.counts import count_legs, count_orders, count_starts, picks_of, rows_through
 
 
 class Rows:
@@ -34,13 +34,14 @@ class Rows:
             row = row + (number,)
         return row
 
-    def before(self, row):
-        """How many of the rows stand before this one."""
-        many = 0
-        for place, number in enumerate(row):
-            for lesser in range(1, number):
-                many += self.starting(row[:place] + (lesser,))
-        return many
+    def listed(self):
+        """All the rows, in their order; to be asked where they are few."""
+        if self.kind == "any":
+            return sorted([start for start in self.picks if len(start) == len(self.grids[0])])
+        found = []
+        for grid in self.grids:
+            found.extend(rows_through(self.kind, grid))
+        return sorted(found)
 
 
 def rows_on(kind, sets):
@@ -73,3 +74,25 @@ def seatings(size, bankers, others):
                     seated.append(grid[:place] + [[banker]] + grid[place + 1:])
         grids = seated
     return grids
+
+
+def count_common(rows, others):
+    """How many rows of one pool are in both."""
+    if rows.kind == "any":
+        return sum([others.starting(row) for row in rows.listed()])
+    # No row is in two grids of the same bet, so none is in two meetings.
+    meetings = []
+    for grid in rows.grids:
+        for other in others.grids:
+            meetings.append(meeting(grid, other))
+    return Rows(rows.kind, meetings).starting(())
+
+
+def meeting(grid, other):
+    """The sets of the numbers that both have at the same place."""
+    return [common(numbers, theirs) for numbers, theirs in zip(grid, other)]
+
+
+def common(numbers, others):
+    """The numbers that are in both."""
+    return [number for number in numbers if number in others]

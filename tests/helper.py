@@ -67,6 +67,14 @@ def nth(i, bet, card=DAY):
     return desk.nth(i, codes(card), codes(bet))
 
 
+def list_of(bet, card=DAY):
+    return desk.list_of(codes(card), codes(bet))
+
+
+def both(bet, other, card=DAY):
+    return desk.both(codes(card), codes(bet), codes(other))
+
+
 def rows(kind, fields):
     """All combinations of a pool in the order of rows, from the interests that each of their numbers may be."""
     if kind == "order":
@@ -84,6 +92,12 @@ def fits(kind, how, row, sets):
         return set(sets[0]) <= set(row) <= set(sets[0]) | set(sets[1])
     orders = itertools.permutations(row) if kind == "any" else [row]
     return any(all(number in some for number, some in zip(order, sets)) for order in orders)
+
+
+def told_of(pool, how, sets):
+    """The numbers of a bet's combinations, found by going through all of the pool (one of POOLS)."""
+    name, kind, size, race, fields = pool
+    return [number for number, row in enumerate(rows(kind, fields)) if fits(kind, how, row, sets)]
 
 
 def numbers(first, last):

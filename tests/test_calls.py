@@ -7,7 +7,7 @@ import sys
 import unittest
 
 from betwords import desk
-from tests.helper import DAY, big_day, codes, cost, has, judge, many, means, nth, numbers
+from tests.helper import DAY, big_day, both, codes, cost, has, judge, list_of, many, means, nth, numbers
 
 BET = "bet win for 1 on 1\n"
 FAULTY = "bet lose for 1 on 1\n"
@@ -19,8 +19,30 @@ def with_number(call, number):
     return lambda card, bet: call(number, card, bet)
 
 
-CALLS = [desk.judge, desk.means, desk.many, desk.cost]
+def both_first(card, bet):
+    return desk.both(card, bet, codes("bet trio for 2 box 1,2,3\n"))
+
+
+def both_second(card, bet):
+    return desk.both(card, codes("bet trio for 2 box 1,2,3\n"), bet)
+
+
+def both_twice(card, bet):
+    return desk.both(card, bet, bet)
+
+
+CALLS = [desk.judge, desk.means, desk.many, desk.cost, desk.list_of, both_first, both_second, both_twice]
 CALLS += [with_number(call, number) for call in [desk.has, desk.nth] for number in [0, 2, MOST]]
+
+
+class Still(list):
+    """A list that can't be changed, not for a while either."""
+
+    def refuse(self, *arguments, **options):
+        raise AssertionError("an argument was changed")
+
+    __setitem__ = __delitem__ = __iadd__ = __imul__ = refuse
+    append = clear = extend = insert = pop = remove = reverse = sort = refuse
 
 
 def largest_bets():
@@ -42,8 +64,10 @@ def largest_bets():
 class RefusalTest(unittest.TestCase):
     def refused(self, card, bet, answer):
         self.assertEqual(judge(bet, card), answer)
-        for call in [means, many, cost]:
+        for call in [means, many, cost, list_of]:
             self.assertEqual(call(bet, card), answer[:1])
+        for pair in [(bet, BET), (BET, bet), (bet, bet)]:
+            self.assertEqual(both(*pair, card), answer[:1])
         for call in [has, nth]:
             for number in [0, MOST]:
                 self.assertEqual(call(number, bet, card), answer[:1])
@@ -135,14 +159,18 @@ class LargestTest(unittest.TestCase):
 
 class InterfaceTest(unittest.TestCase):
     def test_names_and_order_of_the_arguments(self):
-        for call in [desk.judge, desk.means, desk.many, desk.cost]:
+        for call in [desk.judge, desk.means, desk.many, desk.cost, desk.list_of]:
             self.assertEqual(list(inspect.signature(call).parameters), ["card", "bet"])
         self.assertEqual(list(inspect.signature(desk.has).parameters), ["number", "card", "bet"])
         self.assertEqual(list(inspect.signature(desk.nth).parameters), ["i", "card", "bet"])
+        self.assertEqual(list(inspect.signature(desk.both).parameters), ["card", "bet", "other"])
         self.assertEqual(desk.many(bet=codes(BET), card=codes(DAY)), [0, 1])
         self.assertEqual(desk.cost(bet=codes(BET), card=codes(DAY)), [0, 1])
         self.assertEqual(desk.has(bet=codes(BET), card=codes(DAY), number=0), [0, 1])
         self.assertEqual(desk.nth(bet=codes(BET), card=codes(DAY), i=0), [0, 0])
+        self.assertEqual(desk.list_of(bet=codes(BET), card=codes(DAY)), [0, 0])
+        self.assertEqual(desk.both(other=codes(BET), bet=codes(BET), card=codes(DAY)), [0, 1])
+        self.assertEqual(desk.both(other=codes(BET), bet=codes(FAULTY), card=codes(DAY)), [-6])
 
     def test_nothing_is_printed(self):
         shown = io.StringIO()
@@ -161,6 +189,15 @@ class PureTest(unittest.TestCase):
                 first, second = codes(card), codes(bet)
                 call(first, second)
                 self.assertEqual((first, second), (codes(card), codes(bet)))
+
+    def test_arguments_are_not_changed_for_a_while_either(self):
+        for card, bet in [(DAY, BET), (DAY, FAULTY), (DAY, "bet trio for 2 key 1,2 with 3,5\n"), ("x", BET),
+                          (DAY, "bet three for 1 box 1,2,3\n"), (DAY, "bet double for 500 on 2,5 / 4\n"),
+                          (big_day(), largest_bets()[1][0]), (DAY, "bet trio for 2 on 1,2 / 1,3 / 5\n")]:
+            for call in CALLS:
+                self.assertEqual(call(Still(codes(card)), Still(codes(bet))), call(codes(card), codes(bet)))
+            answer = desk.both(Still(codes(card)), Still(codes(bet)), Still(codes(BET)))
+            self.assertEqual(answer, desk.both(codes(card), codes(bet), codes(BET)))
 
     def test_a_second_call_answers_as_the_first(self):
         texts = [(DAY, BET), (DAY, FAULTY), ("x", BET), (big_day(), largest_bets()[1][0]), (DAY, "\n"),

@@ -4,12 +4,21 @@ import itertools
 import random
 import unittest
 
-from betwords.counts import count_different, count_starts, picks_of
-from betwords.rows import rows_box, rows_key, rows_on, seatings
+from betwords.counts import choose, count_before, count_different, count_starts, picks_of
+from betwords.rows import count_common, rows_box, rows_key, rows_on, seatings
 from tests.helper import a_part, fits, keys, parts, rows
 
 KINDS = [("order", 2), ("order", 3), ("order", 4), ("any", 2), ("any", 3)]
 FULL = list(range(1, 25))
+
+
+def made(kind, how, sets, size):
+    """The rows of a bet in a pool of this size."""
+    if how == "on":
+        return rows_on(kind, sets)
+    if how == "box":
+        return rows_box(kind, size, sets[0])
+    return rows_key(kind, size, sets[0], sets[1])
 
 
 class CountTest(unittest.TestCase):
@@ -84,7 +93,7 @@ class OrderTest(unittest.TestCase):
     def compared(self, found, told, everything):
         """Hold rows against the same ones told in order, and all rows of their pool."""
         self.assertEqual([found.row_at(i) for i in range(len(told))], told)
-        self.assertEqual([found.before(row) for row in told], list(range(len(told))))
+        self.assertEqual(found.listed(), told)
         fit = set(told)
         for row in everything:
             self.assertEqual(found.starting(row), int(row in fit))
@@ -92,14 +101,7 @@ class OrderTest(unittest.TestCase):
     def check(self, kind, how, sets, fields):
         everything = rows(kind, fields)
         told = [row for row in everything if fits(kind, how, row, sets)]
-        size = len(fields)
-        if how == "on":
-            found = rows_on(kind, sets)
-        elif how == "box":
-            found = rows_box(kind, size, sets[0])
-        else:
-            found = rows_key(kind, size, sets[0], sets[1])
-        self.compared(found, told, everything)
+        self.compared(made(kind, how, sets, len(fields)), told, everything)
 
     def test_every_bet_on_small_pools(self):
         for kind, size in [("place", 1), ("order", 2), ("order", 3), ("any", 2), ("any", 3)]:
@@ -149,6 +151,70 @@ class OrderTest(unittest.TestCase):
                              ("legs", [FULL] * 2), ("legs", [[1, 2], FULL, [5, 6, 7]])]:
             everything = rows(kind, fields)
             self.compared(rows_on(kind, fields), everything, everything)
+
+    def test_listed_in_large_pools(self):
+        for kind, how, sets, size in [
+                ("order", "on", [[24], FULL, [1, 24], [5]], 4), ("order", "box", [[3, 8, 21, 24]], 4),
+                ("order", "key", [[9, 24], [1, 5, 10]], 4), ("order", "key", [[2, 11, 20], [5, 24]], 4),
+                ("any", "key", [[12], FULL[:11] + FULL[12:]], 3), ("any", "box", [FULL], 3)]:
+            found = made(kind, how, sets, size)
+            told = [row for row in rows(kind, [FULL] * size) if fits(kind, how, row, sets)]
+            self.assertEqual(found.listed(), told)
+        sets = [[24], [1, 24], [5], [7, 8, 9], [1], [2, 3]]
+        self.assertEqual(rows_on("legs", sets).listed(), list(itertools.product(*sets)))
+
+
+class BeforeTest(unittest.TestCase):
+    def test_every_row_of_small_pools(self):
+        gaps = [1, 3, 4, 7, 12, 24]
+        for kind, fields in [
+                ("place", [gaps]), ("place", [[2]]), ("order", [gaps] * 2), ("order", [gaps] * 3),
+                ("order", [gaps] * 4), ("order", [gaps[:4]] * 4), ("order", [[1, 2]] * 2), ("any", [gaps] * 2),
+                ("any", [gaps] * 3), ("any", [gaps[:3]] * 3), ("any", [[1, 2]] * 2), ("legs", [gaps, [1]]),
+                ("legs", [[1], gaps]), ("legs", [[2, 3], gaps, [1, 24], [5], [6, 7]])]:
+            for number, row in enumerate(rows(kind, fields)):
+                self.assertEqual(count_before(kind, fields, row), number, (kind, fields, row))
+
+    def test_whole_pools(self):
+        for kind, fields in [("place", [FULL]), ("order", [FULL] * 3), ("any", [FULL] * 2), ("any", [FULL] * 3),
+                             ("legs", [FULL] * 3), ("legs", [[1, 2], FULL, [5, 6, 7]])]:
+            everything = rows(kind, fields)
+            self.assertEqual([count_before(kind, fields, row) for row in everything], list(range(len(everything))))
+
+    def test_the_largest_pools(self):
+        everything = rows("order", [FULL] * 4)
+        for number in list(range(0, len(everything), 997)) + [len(everything) - 1]:
+            self.assertEqual(count_before("order", [FULL] * 4, everything[number]), number)
+        self.assertEqual(count_before("legs", [FULL] * 6, (24,) * 6), 24 ** 6 - 1)
+        self.assertEqual(count_before("legs", [FULL] * 6, (2, 1, 1, 1, 1, 3)), 24 ** 5 + 2)
+
+    def test_choose(self):
+        for many in range(8):
+            for size in range(5):
+                self.assertEqual(choose(many, size), len(list(itertools.combinations(range(many), size))))
+
+
+class CommonTest(unittest.TestCase):
+    def test_each_pair_of_ways(self):
+        chance = random.Random(10)
+        interests = [2, 3, 5, 11, 24]
+        for kind, size in KINDS:
+            bets = [("on", [a_part(chance, interests) for place in range(size)]) for step in range(8)]
+            bets += [("box", [a_part(chance, interests, size)]) for step in range(4)]
+            bets += [("key", sets) for sets in chance.sample(keys(interests, size), 10)]
+            everything = rows(kind, [interests] * size)
+            told = [{row for row in everything if fits(kind, how, row, sets)} for how, sets in bets]
+            for one, other in itertools.product(range(len(bets)), repeat=2):
+                many = count_common(made(kind, *bets[one], size), made(kind, *bets[other], size))
+                self.assertEqual(many, len(told[one] & told[other]), (kind, bets[one], bets[other]))
+
+    def test_place_and_legs(self):
+        for kind, one, other, many in [
+                ("place", [[1, 2, 5]], [[2, 3, 5]], 2), ("place", [[1]], [[2]], 0),
+                ("legs", [[1, 2], [3]], [[2, 4], [3, 5]], 1), ("legs", [[1], [3]], [[3], [1]], 0),
+                ("legs", [FULL] * 6, [FULL] * 5 + [[7]], 24 ** 5)]:
+            self.assertEqual(count_common(rows_on(kind, one), rows_on(kind, other)), many)
+            self.assertEqual(count_common(rows_on(kind, other), rows_on(kind, one)), many)
 
 
 if __name__ == "__main__":
